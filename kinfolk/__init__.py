@@ -1,0 +1,1 @@
+"""Families in a text: persons and their parents, checked for what can't be."""

@@ -1,0 +1,33 @@
+"""Ways from persons to their parents, among persons by their numbers."""
+
+from kinfolk.persons import NOBODY
+
+
+def known_parents(person):
+    """The numbers of those parents that are known."""
+    return [parent for parent in person.parents if parent != NOBODY]
+
+
+def ancestors(persons, number):
+    """Whom the person with that number comes from: a dict that has their numbers as keys."""
+    found = {}
+    waiting = [number]
+    while len(waiting) > 0:
+        for parent in known_parents(persons[waiting.pop()]):
+            # Who was found before isn't walked again, so that a circle ends too.
+            if parent not in found:
+                found[parent] = True
+                waiting.append(parent)
+    return found
+
+
+def with_steps_upwards(persons, steps):
+    """The persons, in their order, from whom a line of parents has at least so many steps."""
+    left = persons
+    for step in range(steps):
+        higher = {}
+        for number in left:
+            if any([parent in left for parent in known_parents(persons[number])]):
+                higher[number] = True
+        left = higher
+    return [persons[number] for number in left]
