@@ -3,8 +3,14 @@
 from kinfolk.days import may_be_before, may_be_born_to
 from kinfolk.lineage import ancestors, known_parents, with_steps_upwards
 from kinfolk.persons import FEMALE, MALE, NOBODY, NotFamilies, read_persons
+from kinfolk.relations import nearest
+from kinfolk.wording import words_for
 
 MOST_STEPS = 30
+
+
+class WrongQuestion(Exception):
+    """A number that is handed in besides the text isn't one that can be asked with."""
 
 
 def check(text):
@@ -14,6 +20,34 @@ def check(text):
     except NotFamilies as e:
         return [e.row]
     return [0]
+
+
+def relation(a, b, text):
+    """0, then the bytes of the words for what b is to a; or a refusal."""
+    return answer(tell_relation, a, b, text)
+
+
+def answer(tell, one, other, text):
+    """What tell says of the text's persons and the two numbers; else -1 (no families) or -2 (a wrong number)."""
+    try:
+        return tell(read_families(text), one, other)
+    except NotFamilies:
+        return [-1]
+    except WrongQuestion:
+        return [-2]
+
+
+def refuse_unknown(persons, numbers):
+    """Refuses the question if one of the numbers is no person's."""
+    if any([number not in persons for number in numbers]):
+        raise WrongQuestion()
+
+
+def tell_relation(persons, a, b):
+    """0, then the bytes of the words for what b is to a."""
+    refuse_unknown(persons, (a, b))
+    words = words_for(nearest(persons, a, b), persons[a], persons[b])
+    return [0] + [ord(letter) for letter in words]
 
 
 def read_families(text):

@@ -31,3 +31,26 @@ def with_steps_upwards(persons, steps):
                 higher[number] = True
         left = higher
     return [persons[number] for number in left]
+
+
+def levels_upwards(persons, number):
+    """For each k from 0 on who is up k from the person, as long as there is one.
+
+    A level has their numbers as keys and, by each, those who come last before them on the ways of k steps to them.
+    Nobody may come from themselves: this wouldn't end.
+    """
+    levels = []
+    level = {number: []}
+    while len(level) > 0:
+        levels.append(level)
+        level = level_above(persons, level)
+    return levels
+
+
+def level_above(persons, level):
+    """The parents of those in a level: by each the children who are in it."""
+    above = {}
+    for child in level:
+        for parent in known_parents(persons[child]):
+            above[parent] = above.get(parent, []) + [child]
+    return above

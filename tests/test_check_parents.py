@@ -3,14 +3,11 @@
 import unittest
 
 from kinfolk import families
+from tests.helpers import encode, person
 
 
 def check(text):
-    return families.check(list(text.encode("latin-1")))
-
-
-def person(number, sex="m", father="-", mother="-", birth="?-?-?", death="?-?-?"):
-    return "%s %s %s %s A < %s %s\n" % (number, sex, birth, death, father, mother)
+    return families.check(encode(text))
 
 
 def line_of_fathers(steps, first=1):
