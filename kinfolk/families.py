@@ -1,6 +1,7 @@
 """The calls: what can be asked of a text of families."""
 
 from kinfolk.days import may_be_before, may_be_born_to
+from kinfolk.genes import kinship_of
 from kinfolk.lineage import ancestors, known_parents, with_steps_upwards
 from kinfolk.persons import FEMALE, MALE, NOBODY, NotFamilies, read_persons
 from kinfolk.relations import nearest
@@ -27,6 +28,11 @@ def relation(a, b, text):
     return answer(tell_relation, a, b, text)
 
 
+def kinship(a, b, text):
+    """0, then the kinship of a with b times 2 ** 62; or a refusal."""
+    return answer(tell_kinship, a, b, text)
+
+
 def answer(tell, one, other, text):
     """What tell says of the text's persons and the two numbers; else -1 (no families) or -2 (a wrong number)."""
     try:
@@ -48,6 +54,12 @@ def tell_relation(persons, a, b):
     refuse_unknown(persons, (a, b))
     words = words_for(nearest(persons, a, b), persons[a], persons[b])
     return [0] + [ord(letter) for letter in words]
+
+
+def tell_kinship(persons, a, b):
+    """0, then the kinship of a with b times 2 ** 62."""
+    refuse_unknown(persons, (a, b))
+    return [0, kinship_of(persons, a, b)]
 
 
 def read_families(text):

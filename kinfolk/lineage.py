@@ -21,6 +21,19 @@ def ancestors(persons, number):
     return found
 
 
+def upwards(persons, number):
+    """Who is up from the person by any number of steps, the person among them: a dict like that of ancestors."""
+    found = ancestors(persons, number)
+    found[number] = True
+    return found
+
+
+def elders_first(persons, numbers):
+    """The numbers, parents ahead of their children."""
+    # A parent has fewer ancestors than the child, who has all of theirs and the parent besides.
+    return sorted(numbers, key=lambda number: len(ancestors(persons, number)))
+
+
 def with_steps_upwards(persons, steps):
     """The persons, in their order, from whom a line of parents has at least so many steps."""
     left = persons

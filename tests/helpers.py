@@ -1,8 +1,26 @@
 """What the tests of several calls have in common: short ways to write texts, and the tests of refusals."""
 
+import contextlib
 import random
+import signal
 
 LEAST, MOST = -2147483648, 2147483647
+
+
+@contextlib.contextmanager
+def soon(seconds=20):
+    """Fails where what stands within takes longer; else a walk along all of very many ways would go on for years."""
+
+    def fail(*ignored):
+        raise AssertionError("no answer within %d seconds" % seconds)
+
+    before = signal.signal(signal.SIGALRM, fail)
+    signal.alarm(seconds)
+    try:
+        yield
+    finally:
+        signal.alarm(0)
+        signal.signal(signal.SIGALRM, before)
 
 
 def encode(text):
