@@ -1,1 +1,1 @@
-"""Families in a text: persons and their parents, checked for what can't be; how two of them are related."""
+"""Families in a text: persons and their parents, and how they are related."""

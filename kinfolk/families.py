@@ -2,7 +2,7 @@
 
 from kinfolk.days import may_be_before, may_be_born_to
 from kinfolk.genes import kinship_of
-from kinfolk.lineage import ancestors, known_parents, with_steps_upwards
+from kinfolk.lineage import ancestors, common_to, known_parents, with_steps_upwards
 from kinfolk.persons import FEMALE, MALE, NOBODY, NotFamilies, read_persons
 from kinfolk.relations import nearest
 from kinfolk.wording import words_for
@@ -33,6 +33,11 @@ def kinship(a, b, text):
     return answer(tell_kinship, a, b, text)
 
 
+def common(a, b, text):
+    """How many are the nearest whom both a and b come from or are, then their numbers; or a refusal."""
+    return answer(tell_common, a, b, text)
+
+
 def answer(tell, one, other, text):
     """What tell says of the text's persons and the two numbers; else -1 (no families) or -2 (a wrong number)."""
     try:
@@ -60,6 +65,17 @@ def tell_kinship(persons, a, b):
     """0, then the kinship of a with b times 2 ** 62."""
     refuse_unknown(persons, (a, b))
     return [0, kinship_of(persons, a, b)]
+
+
+def tell_common(persons, a, b):
+    """How many are up from both a and b and have no child who is, then their numbers."""
+    refuse_unknown(persons, (a, b))
+    return counted(common_to(persons, a, b))
+
+
+def counted(numbers):
+    """How many numbers there are, then these, the lesser first."""
+    return [len(numbers)] + sorted(numbers)
 
 
 def read_families(text):

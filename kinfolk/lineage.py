@@ -28,6 +28,17 @@ def upwards(persons, number):
     return found
 
 
+def common_to(persons, a, b):
+    """Who is up from both a and b, as upwards tells it, and has no child who is: a list of their numbers."""
+    up_from_b = upwards(persons, b)
+    shared = [number for number in upwards(persons, a) if number in up_from_b]
+    with_such_a_child = {}
+    for number in shared:
+        for parent in known_parents(persons[number]):
+            with_such_a_child[parent] = True
+    return [number for number in shared if number not in with_such_a_child]
+
+
 def elders_first(persons, numbers):
     """The numbers, parents ahead of their children."""
     # A parent has fewer ancestors than the child, who has all of theirs and the parent besides.
