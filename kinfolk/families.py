@@ -2,7 +2,7 @@
 
 from kinfolk.days import may_be_before, may_be_born_to
 from kinfolk.genes import kinship_of
-from kinfolk.lineage import ancestors, common_to, known_parents, with_steps_upwards
+from kinfolk.lineage import ancestors, common_to, descendants, known_parents, with_steps_upwards
 from kinfolk.persons import FEMALE, MALE, NOBODY, NotFamilies, read_persons
 from kinfolk.relations import nearest
 from kinfolk.wording import words_for
@@ -38,6 +38,11 @@ def common(a, b, text):
     return answer(tell_common, a, b, text)
 
 
+def line(a, down, text):
+    """How many come from a (down 1), or from how many a comes (down 0), then their numbers; or a refusal."""
+    return answer(tell_line, a, down, text)
+
+
 def answer(tell, one, other, text):
     """What tell says of the text's persons and the two numbers; else -1 (no families) or -2 (a wrong number)."""
     try:
@@ -71,6 +76,16 @@ def tell_common(persons, a, b):
     """How many are up from both a and b and have no child who is, then their numbers."""
     refuse_unknown(persons, (a, b))
     return counted(common_to(persons, a, b))
+
+
+def tell_line(persons, a, down):
+    """How many come from a (down 1), or from how many a comes (down 0), then their numbers."""
+    refuse_unknown(persons, (a,))
+    if down == 1:
+        return counted(descendants(persons, a))
+    if down == 0:
+        return counted(list(ancestors(persons, a)))
+    raise WrongQuestion()
 
 
 def counted(numbers):

@@ -21,6 +21,11 @@ def ancestors(persons, number):
     return found
 
 
+def descendants(persons, number):
+    """Who comes from the person with that number: a list of their numbers."""
+    return [other for other in persons if number in ancestors(persons, other)]
+
+
 def upwards(persons, number):
     """Who is up from the person by any number of steps, the person among them: a dict like that of ancestors."""
     found = ancestors(persons, number)
